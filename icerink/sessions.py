@@ -35,6 +35,15 @@ def days_that_fit(sessions, gap):
     return days
 
 
+def fits(sessions, gap, bits):
+    clashes = [earlier_that_clash(sessions, k, gap) & bits for k in range(len(sessions)) if ((bits >> k) & 1) == 1]
+    return not any(clashes)
+
+
+def fees_of(sessions, bits):
+    return sum([session.fee for k, session in enumerate(sessions) if ((bits >> k) & 1) == 1])
+
+
 def best_day(sessions, gap):
     best = (0, 0)
     for day in days_that_fit(sessions, gap):
@@ -81,3 +90,34 @@ def ir_drop(rink, k):
         return [NONE_SUCH]
     session.booked = 0
     return [session.fee]
+
+
+def ir_would(rink, asks):
+    if asks >= 1 << len(rink.sessions):
+        return [NOT_AS_TOLD]
+    fit = 1 if fits(rink.sessions, rink.gap, asks) else 0
+    return [fit, fees_of(rink.sessions, asks)]
+
+
+def ir_best(rink):
+    if len(rink.sessions) == 0:
+        return [NONE_SUCH]
+    best = best_day(rink.sessions, rink.gap)
+    return [best[1], best[0]]
+
+
+def ir_who(rink, minute):
+    if minute >= DAY_END:
+        return [NOT_AS_TOLD]
+    for k, session in enumerate(rink.sessions):
+        # Booked sessions fit, so no other one has the minute too.
+        if session.booked == 1 and session.begin <= minute and minute < session.end:
+            return [k, session.end - minute]
+    return [NONE_SUCH]
+
+
+def ir_look(rink, k):
+    if k >= len(rink.sessions):
+        return [NOT_THERE]
+    session = rink.sessions[k]
+    return [session.fee, session.begin, session.end, session.booked]

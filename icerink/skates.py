@@ -1,6 +1,6 @@
 """The calls on pairs of skates, answering as those in icerink.ice do."""
 
-from icerink.refusals import NO_ROOM, NONE_SUCH, NOT_AS_TOLD, NOT_THERE, TOO_FEW
+from icerink.refusals import NO_ROOM, NONE_SUCH, NOT_AS_TOLD, NOT_THERE, OUT_OF_REACH, TOO_FEW
 
 MOST_PAIRS = 100
 
@@ -59,3 +59,29 @@ def ir_sharpen(rink, k, n):
     pairs.blunt -= n
     pairs.sharp += n
     return [pairs.sharp]
+
+
+def nearest_size(sizes, k):
+    """None if no size has a sharp pair."""
+    nearest = None
+    for size, pairs in enumerate(sizes):
+        # Sizes rise, so one that differs no more than an earlier one is the greater of the two.
+        if pairs.sharp > 0 and (nearest is None or abs(size - k) <= abs(nearest - k)):
+            nearest = size
+    return nearest
+
+
+def ir_size(rink, k):
+    if k >= len(rink.sizes):
+        return [NOT_THERE]
+    pairs = rink.sizes[k]
+    return [pairs_in_all(pairs), pairs.sharp, pairs.blunt, pairs.hired]
+
+
+def ir_nearest(rink, k):
+    if k >= len(rink.sizes):
+        return [NOT_THERE]
+    nearest = nearest_size(rink.sizes, k)
+    if nearest is None:
+        return [OUT_OF_REACH]
+    return [nearest]

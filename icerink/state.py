@@ -46,3 +46,42 @@ class Rink:
         self.sizes = [Pairs() for size in range(SIZES)]
         self.gap = 0
         self.sessions = []
+
+
+def copy_of_machine(machine):
+    copied = Machine(machine.cold, machine.cost)
+    copied.runs = machine.runs
+    return copied
+
+
+def copy_of_pairs(pairs):
+    copied = Pairs()
+    copied.sharp = pairs.sharp
+    copied.blunt = pairs.blunt
+    copied.hired = pairs.hired
+    return copied
+
+
+def copy_of_session(session):
+    copied = Session(session.begin, session.end, session.fee)
+    copied.booked = session.booked
+    return copied
+
+
+def copy_of_rink(rink):
+    """A rink that shares nothing with the first that a call could change."""
+    copied = Rink(rink.base, rink.each, rink.least, rink.room)
+    copied.machines = [copy_of_machine(machine) for machine in rink.machines]
+    copied.ice = rink.ice
+    copied.water = rink.water
+    copied.laid = rink.laid
+    copied.shaved = rink.shaved
+    copied.drained = rink.drained
+    copied.skaters = rink.skaters
+    copied.sent_off = rink.sent_off
+    copied.minute = rink.minute
+    copied.spent = rink.spent
+    copied.sizes = [copy_of_pairs(pairs) for pairs in rink.sizes]
+    copied.gap = rink.gap
+    copied.sessions = [copy_of_session(session) for session in rink.sessions]
+    return copied

@@ -75,7 +75,6 @@ class Minute(unittest.TestCase):
         self.assertEqual(ir_minutes(rink, 1441), [-22])
         self.assertEqual(rink.spent, 63)
 
-
     def test_each_litre_is_accounted_for(self):
         rink = Rink(10, 3, 50, 20)
         ir_machine(rink, 30, 4)

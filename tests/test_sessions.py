@@ -16,16 +16,31 @@ def booked(gap, sessions):
     return last(texts + ["book"])
 
 
+def all_fit(gap, chosen):
+    return all(a[0] - b[1] >= gap or b[0] - a[1] >= gap for a, b in itertools.combinations(chosen, 2))
+
+
 def brute_best(gap, sessions):
     """Every set, as the words tell it."""
     best = None
     for bits in range(1 << len(sessions)):
         chosen = [session for k, session in enumerate(sessions) if bits >> k & 1]
-        if all(a[0] - b[1] >= gap or b[0] - a[1] >= gap for a, b in itertools.combinations(chosen, 2)):
+        if all_fit(gap, chosen):
             fees = sum(session[2] for session in chosen)
             if best is None or fees > best[0]:
                 best = [fees, bits]
     return best
+
+
+def some_sessions(source, count):
+    """A gap and so many sessions, now and then of like fees."""
+    span = source.choice((30, 200, 1440))
+    sessions = []
+    for k in range(count):
+        begin = source.randrange(span)
+        end = min(1440, begin + 1 + source.randrange(span))
+        sessions.append((begin, end, source.choice((0, 1, 2, 3, source.randrange(100001)))))
+    return source.choice((0, 1, 5, 60, 120)), sessions
 
 
 class Gap(Refusals, unittest.TestCase):
@@ -146,13 +161,7 @@ class Book(Refusals, unittest.TestCase):
     def test_as_every_set_looked_at(self):
         source = random.Random(5)
         for count in [1, 2, 3, 4, 5, 6, 7, 8] * 25:
-            span = source.choice((30, 200, 1440))
-            sessions = []
-            for k in range(count):
-                begin = source.randrange(span)
-                end = min(1440, begin + 1 + source.randrange(span))
-                sessions.append((begin, end, source.choice((0, 1, 2, 3, source.randrange(100001)))))
-            gap = source.choice((0, 1, 5, 60, 120))
+            gap, sessions = some_sessions(source, count)
             self.assertEqual(booked(gap, sessions), brute_best(gap, sessions), (gap, sessions))
 
 
